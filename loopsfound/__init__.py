@@ -1,0 +1,1 @@
+"""Loops found in a recording of deeds."""

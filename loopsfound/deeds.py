@@ -1,0 +1,57 @@
+"""Deeds, and how they are read from numbers.
+
+A deed is a tuple of its numbers: its kind, then its field and its number, if it has them.
+"""
+
+from loopsfound.reading import Reader
+
+LAST_KIND = 9
+KINDS_WITH_FIELD = (3, 4, 5, 6, 9)
+KINDS_WITH_NUMBER = (3, 4, 9)
+LAST_FIELD = 2
+MOST_NUMBER = 999
+MOST_DEEDS = 14
+
+
+def has_number(deed):
+    return len(deed) == 3
+
+
+def number_of(deed):
+    """The deed's number; 0 if it has none."""
+    return deed[2] if has_number(deed) else 0
+
+
+def deed_at_round(deed, step, round_number):
+    """The deed as it is told in that round of its loop."""
+    if not has_number(deed):
+        return deed
+    return (deed[0], deed[1], deed[2] + step * round_number)
+
+
+def read_deed(reader):
+    kind = reader.take(0, LAST_KIND)
+    if kind not in KINDS_WITH_FIELD:
+        return (kind,)
+    field = reader.take(0, LAST_FIELD)
+    if kind not in KINDS_WITH_NUMBER:
+        return (kind, field)
+    return (kind, field, reader.take(-MOST_NUMBER, MOST_NUMBER))
+
+
+def whole_deed(numbers):
+    """The deed that the list is, if it is just that."""
+    reader = Reader(numbers)
+    deed = read_deed(reader)
+    reader.finish()
+    return deed
+
+
+def whole_deeds(numbers):
+    """The row of deeds that the list is, if it is just that and no longer than a recording."""
+    reader = Reader(numbers)
+    deeds = []
+    for place in range(reader.take(0, MOST_DEEDS)):
+        deeds.append(read_deed(reader))
+    reader.finish()
+    return deeds
