@@ -5,7 +5,16 @@ A deed is a tuple of its numbers: its kind, then its field and its number, if it
 
 from loopsfound.reading import Reader
 
-LAST_KIND = 9
+DOWN = 0
+UP = 1
+TOP = 2
+WRITE = 3
+ADD = 4
+COPY = 5
+PASTE = 6
+DELETE = 7
+DOUBLE = 8
+FIND = 9
 KINDS_WITH_FIELD = (3, 4, 5, 6, 9)
 KINDS_WITH_NUMBER = (3, 4, 9)
 LAST_FIELD = 2
@@ -29,8 +38,16 @@ def deed_at_round(deed, step, round_number):
     return (deed[0], deed[1], deed[2] + step * round_number)
 
 
+def step_between(first, second):
+    """The step by which the one deed becomes the other a round later, or None if there is no such step."""
+    if first[:2] != second[:2]:
+        return None
+    step = number_of(second) - number_of(first)
+    return step if abs(step) <= MOST_NUMBER else None
+
+
 def read_deed(reader):
-    kind = reader.take(0, LAST_KIND)
+    kind = reader.take(DOWN, FIND)
     if kind not in KINDS_WITH_FIELD:
         return (kind,)
     field = reader.take(0, LAST_FIELD)
@@ -55,3 +72,10 @@ def whole_deeds(numbers):
         deeds.append(read_deed(reader))
     reader.finish()
     return deeds
+
+
+def deeds_as_numbers(deeds):
+    numbers = [len(deeds)]
+    for deed in deeds:
+        numbers.extend(deed)
+    return numbers

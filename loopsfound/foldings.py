@@ -1,11 +1,11 @@
-"""The foldings of a recording: how many there are, and the least one.
+"""The foldings of a recording: how many there are, the least one, and the loops of plain deeds.
 
 What a loop's piece is hangs on its place alone: the deeds at this place in the loop's rounds give its deed and its
 step. So a folding is a choice of places, lengths and rounds, and the deeds behind a piece can be folded without
 looking at the piece.
 """
 
-from loopsfound.deeds import MOST_NUMBER, deed_at_round, number_of
+from loopsfound.deeds import deed_at_round, step_between
 from loopsfound.programs import MOST_ROUNDS, DeedPiece, LoopPiece
 
 MOST_LOOPS_DEEP = 2
@@ -69,8 +69,8 @@ def deed_choices(stretch, place):
     first = stretch.deeds[place]
     step = 0
     if stretch.rounds > 1:
-        step = number_of(stretch.deeds[place + stretch.length]) - number_of(first)
-    if abs(step) > MOST_NUMBER:
+        step = step_between(first, stretch.deeds[place + stretch.length])
+    if step is None:
         return []
     for round_number in range(1, stretch.rounds):
         deed = stretch.deeds[place + round_number * stretch.length]
@@ -102,3 +102,23 @@ def is_same_each_round(stretch, place, width):
         if stretch.deeds[later:later + width] != deeds:
             return False
     return True
+
+
+def most_rounds(deeds, place, length):
+    """The most rounds of a loop of plain deeds, as long, that tells the deeds from a place on; 1 if no loop does."""
+    fitting = min(MOST_ROUNDS, (len(deeds) - place) // length)
+    rounds = 1
+    while rounds < fitting and fold_stretch(Stretch(deeds, place, length, rounds + 1, 0)).ways > 0:
+        rounds = rounds + 1
+    return rounds
+
+
+def plain_loops(deeds):
+    """Each place, length and most rounds of a loop of plain deeds, by the place, then by the length."""
+    found = []
+    for place in range(len(deeds)):
+        for length in range(1, (len(deeds) - place) // 2 + 1):
+            rounds = most_rounds(deeds, place, length)
+            if rounds > 1:
+                found.append((place, length, rounds))
+    return found

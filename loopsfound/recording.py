@@ -1,9 +1,11 @@
 """The calls on one recording, read from a list of numbers, and what they answer."""
 
-from loopsfound.deeds import MOST_DEEDS, whole_deed, whole_deeds
-from loopsfound.foldings import fold
+from loopsfound.deeds import MOST_DEEDS, deeds_as_numbers, whole_deed, whole_deeds
+from loopsfound.foldings import fold, plain_loops
+from loopsfound.periods import guess_next
 from loopsfound.programs import row_as_numbers, told_by
 from loopsfound.refusals import FullRecording, NoDeeds, NotOnlyRounds, NotWhole, TellsTooMuch
+from loopsfound.tables import run_deeds, table_as_numbers, whole_table
 
 RECORD = 0
 ADD = 1
@@ -11,6 +13,10 @@ DROP = 2
 COUNT = 3
 LEAST = 4
 IS_IT = 5
+UNROLL = 6
+NEXT_ONE = 7
+LOOPS = 8
+PLAY = 9
 
 
 class Recording:
@@ -46,6 +52,31 @@ class Recording:
     def is_it(self, numbers):
         return compare(told_by(numbers), self.deeds)
 
+    def unroll(self, numbers):
+        return deeds_as_numbers(told_by(numbers))
+
+    def next_one(self):
+        guess = guess_next(self.deeds)
+        if guess is None:
+            return [0]
+        return [1, guess.period, guess.tail] + list(guess.deed)
+
+    def loops(self):
+        found = plain_loops(self.deeds)
+        numbers = [len(found)]
+        for loop in found:
+            numbers.extend(loop)
+        return numbers
+
+    def play(self, numbers):
+        table = whole_table(numbers)
+        # The least folding tells just the recording's deeds, and these are too few for a run to be too long.
+        ended = run_deeds(table, self.deeds)
+        return ended + table_as_numbers(table)
+
+    def told(self):
+        return deeds_as_numbers(self.deeds)
+
 
 def compare(told, deeds):
     """1 if these are the same, else 0 and the first place at which they aren't."""
@@ -71,7 +102,15 @@ def do_call(recording, call, numbers):
         return recording.least()
     if call == IS_IT:
         return recording.is_it(numbers)
-    raise NotImplementedError(f"call {call}")
+    if call == UNROLL:
+        return recording.unroll(numbers)
+    if call == NEXT_ONE:
+        return recording.next_one()
+    if call == LOOPS:
+        return recording.loops()
+    if call == PLAY:
+        return recording.play(numbers)
+    return recording.told()
 
 
 def answer(recording, call, numbers):
@@ -99,7 +138,7 @@ def answers(calls):
         call = calls[place]
         place = place + 1
         numbers = []
-        if call in (RECORD, ADD, IS_IT):
+        if call in (RECORD, ADD, IS_IT, UNROLL, PLAY):
             end = place + 1 + calls[place]
             numbers = calls[place + 1:end]
             place = end

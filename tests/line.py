@@ -2,7 +2,10 @@
 
 from loopsfound.recording import answers
 
-NUMBERS = {"record": 0, "add": 1, "drop": 2, "count": 3, "least": 4, "is_it": 5}
+NUMBERS = {
+    "record": 0, "add": 1, "drop": 2, "count": 3, "least": 4, "is_it": 5, "unroll": 6, "next_one": 7, "loops": 8,
+    "play": 9, "told": 10,
+}
 
 DOWN = [0]
 UP = [1]
@@ -13,6 +16,22 @@ DOUBLE = [8]
 
 def write(field, number):
     return [3, field, number]
+
+
+def add(field, number):
+    return [4, field, number]
+
+
+def copy(field):
+    return [5, field]
+
+
+def paste(field):
+    return [6, field]
+
+
+def find(field, number):
+    return [9, field, number]
 
 
 def flat(lists):
@@ -38,6 +57,10 @@ def to_end(*pieces):
 
 def part(field, number, *pieces):
     return [3, field, number] + row_of(pieces)
+
+
+def table(rows, cursor=0, clipboard=0):
+    return row_of(rows) + [cursor, clipboard]
 
 
 def lay(calls):
@@ -70,4 +93,4 @@ def ask(*calls):
 
 def state(*calls):
     """What can be seen of the recording behind these calls."""
-    return ask(*calls, ("count",), ("least",))[-2:]
+    return ask(*calls, ("told",), ("count",), ("least",))[-3:]

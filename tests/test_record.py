@@ -2,7 +2,7 @@
 
 import unittest
 
-from line import DELETE, DOUBLE, DOWN, TOP, UP, ask, loop, piece, row_of, to_end, write
+from line import DELETE, DOUBLE, DOWN, TOP, UP, ask, loop, piece, row_of, state, table, to_end, write
 
 HUGE = 10 ** 18
 FULL = ("record", row_of([DOWN] * 14))
@@ -115,11 +115,20 @@ class NothingElseChanges(unittest.TestCase):
     def test_asking_changes_nothing(self):
         deeds = [write(0, 5), DOWN, write(0, 6), DOWN]
         asked = [
-            ("count",), ("least",),
-            ("is_it", row_of([loop(2, piece(write(0, 5), 1), piece(DOWN))])),
-            ("is_it", row_of([piece(UP)])), ("is_it", []), ("is_it", row_of([to_end(piece(UP))])),
-            ("is_it", row_of([loop(9, loop(9, piece(UP)))])),
+            ("count",), ("least",), ("next_one",), ("loops",), ("told",),
+            ("is_it", row_of([loop(2, piece(write(0, 5), 1), piece(DOWN))])), ("is_it", row_of([piece(UP)])),
+            ("unroll", row_of([piece(UP)])), ("play", table([(0, 0, 0)] * 2)), ("play", table([])), ("play", [1]),
+        ]
+        for call in ("is_it", "unroll"):
+            asked.extend([
+                (call, []), (call, row_of([to_end(piece(UP))])), (call, row_of([loop(9, loop(9, piece(UP)))])),
+            ])
+        once = [
+            [2], [3, 1, 1, 2, 2, 0, 3, 0, 5, 1, 0, 0], [1, 2, 4, 3, 0, 7], [1, 0, 2, 2], row_of(deeds),
+            [1], [0, 0], [1, 1], [0, 4] + table([(5, 0, 0), (6, 0, 0)], 2), [1, 0] + table([]), [-1],
+            [-1], [-4], [-7], [-1], [-4], [-7],
         ]
         given = ask(("record", row_of(deeds)), *asked, *asked, recorded(deeds))
-        once = [[2], [3, 1, 1, 2, 2, 0, 3, 0, 5, 1, 0, 0], [1], [0, 0], [-1], [-4], [-7]]
         self.assertEqual(given, [[4]] + once + once + [[1]])
+        for call in asked:
+            self.assertEqual(state(("record", row_of(deeds)), call), state(("record", row_of(deeds))))
